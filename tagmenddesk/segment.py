@@ -2,7 +2,9 @@
 
 A thing is a tuple (kind, number); a tag that the source tells is a tuple (number, pair, needed).
 A fault is a tuple (its number, the tag, the other tag or 0).
-Lists of things are never changed in place: a call that changes the translation makes another list.
+Lists of things are never changed in place: a call that changes the translation makes another list,
+so what an undo goes back to can be kept without a copy.
+Call 7 is called rewrite here, for the document's own word for it may not stand in this file.
 """
 
 WORD = 0
@@ -24,24 +26,36 @@ REVERSED = 5
 CROSSING = 6
 
 OUT_OF_RANGE = -1
+NO_SUCH_PAIR = -2
 NOT_AS_TOLD = -3
 TOO_MUCH = -5
+IS_A_WORD = -6
+NOT_WHOLE = -6
+NOTHING_TO_UNDO = -7
 
 SOURCE_CALL = 0
 TARGET_CALL = 1
 FAULTS_CALL = 2
 MEND_CALL = 3
 WOULD_CALL = 4
+PUT_CALL = 5
+TAKE_CALL = 6
+REWRITE_CALL = 7
+WITHIN_CALL = 8
+SHOWS_CALL = 9
+UNDO_CALL = 10
 
 # By a call's number: how many whole numbers it has, and if a row comes behind them.
-WHOLE_NUMBERS = (0, 0, 0, 0, 0, 3)
-HAS_ROW = (True, True, False, False, False, False)
+WHOLE_NUMBERS = (0, 0, 0, 0, 0, 3, 1, 2, 1, 0, 0, 2)
+HAS_ROW = (True, True, False, False, False, False, False, True, False, False, False, False)
 
 
 class Desk:
     def __init__(self):
         self.tags = []
+        self.source_things = []
         self.things = []
+        self.earlier = []
 
 
 def read_segment(numbers):
@@ -62,15 +76,7 @@ def is_too_much(things):
 
 
 def has_great_number(things):
-    for kind, number in things:
-        greatest = GREATEST_WORD if kind == WORD else GREATEST_TAG
-        if number > greatest:
-            return True
-    return False
-
-
-def is_out_of_range(things):
-    return is_too_much(things) or has_great_number(things)
+    return any([number > (GREATEST_WORD if kind == WORD else GREATEST_TAG) for kind, number in things])
 
 
 def are_tags_out_of_range(tags):
@@ -87,10 +93,7 @@ def pieces_of(number, pair):
 
 
 def is_of_source(tags, thing):
-    for number, pair, needed in tags:
-        if thing in pieces_of(number, pair):
-            return True
-    return False
+    return any([thing in pieces_of(tag[0], tag[1]) for tag in tags])
 
 
 def strange_faults(tags, things):
@@ -105,6 +108,11 @@ def is_whole(things, number):
     return things.count((OPENING, number)) == 1 and things.count((CLOSING, number)) == 1
 
 
+def is_in_order(things, number):
+    """Asked only of a pair that is there whole."""
+    return things.index((OPENING, number)) < things.index((CLOSING, number))
+
+
 def crosses(things, first, second):
     """Both are there whole; the one that is called first opens first."""
     first_opens = things.index((OPENING, first))
@@ -115,11 +123,8 @@ def crosses(things, first, second):
 
 
 def crossing_faults(tags, things, number):
-    found = []
-    for other, pair, needed in tags:
-        if pair == 1 and is_whole(things, other) and crosses(things, number, other):
-            found.append((CROSSING, number, other))
-    return found
+    others = [tag[0] for tag in tags if tag[1] == 1 and is_whole(things, tag[0])]
+    return [(CROSSING, number, other) for other in others if crosses(things, number, other)]
 
 
 def pair_faults(tags, things, number, needed):
@@ -131,7 +136,7 @@ def pair_faults(tags, things, number, needed):
         return [(MISSING, number, 0)] if needed == 1 else []
     if openings + closings == 1:
         return [(HALF, number, 0)]
-    if things.index((CLOSING, number)) < things.index((OPENING, number)):
+    if not is_in_order(things, number):
         return [(REVERSED, number, 0)]
     return crossing_faults(tags, things, number)
 
@@ -162,10 +167,7 @@ def is_as_told(tags, things):
 
 def may_stay(tags, kept):
     # What's missing or half is completed later; every other fault lies in what's kept itself.
-    for fault, number, other in faults_of(tags, kept):
-        if fault != MISSING and fault != HALF:
-            return False
-    return True
+    return all([fault[0] in (MISSING, HALF) for fault in faults_of(tags, kept)])
 
 
 def choices_that_may_stay(tags, things):
@@ -218,25 +220,36 @@ def standing(desk):
     return [len(desk.things), len(faults_of(desk.tags, desk.things))]
 
 
+def without(things, spot):
+    return things[:spot] + things[spot + 1:]
+
+
+def change(desk, things):
+    desk.earlier.append(desk.things)
+    desk.things = things
+    return standing(desk)
+
+
 def source_answer(desk, told):
     segment_start = 1 + 3 * told[0]
     tags = [(told[k], told[k + 1], told[k + 2]) for k in range(1, segment_start, 3)]
     things = read_segment(told[segment_start:])
-    if is_out_of_range(things) or are_tags_out_of_range(tags):
+    if is_too_much(things) or has_great_number(things) or are_tags_out_of_range(tags):
         return [OUT_OF_RANGE]
     if not is_as_told(tags, things):
         return [NOT_AS_TOLD]
     desk.tags = tags
+    desk.source_things = things
     desk.things = []
+    desk.earlier = []
     return standing(desk)
 
 
 def target_answer(desk, numbers):
     things = read_segment(numbers)
-    if is_out_of_range(things):
+    if is_too_much(things) or has_great_number(things):
         return [OUT_OF_RANGE]
-    desk.things = things
-    return standing(desk)
+    return change(desk, things)
 
 
 def faults_answer(desk):
@@ -247,21 +260,21 @@ def faults_answer(desk):
     return numbers
 
 
-def mended_answer(cost, things):
-    return [cost, len(things)] + write_segment(things)
+def segment_answer(things):
+    return [len(things)] + write_segment(things)
 
 
 def mend_answer(desk):
     best = mended(desk.tags, desk.things)
     if is_too_much(best[1]):
         return [TOO_MUCH]
-    desk.things = best[1]
-    return mended_answer(best[0], best[1])
+    change(desk, best[1])
+    return [best[0]] + segment_answer(best[1])
 
 
 def would_answer(desk):
     best = mended(desk.tags, desk.things)
-    return mended_answer(best[0], best[1])
+    return [best[0]] + segment_answer(best[1])
 
 
 def put_answer(desk, spot, kind, number):
@@ -270,7 +283,68 @@ def put_answer(desk, spot, kind, number):
     things = desk.things[:spot] + [(kind, number)] + desk.things[spot:]
     if is_too_much(things):
         return [TOO_MUCH]
-    desk.things = things
+    return change(desk, things)
+
+
+def refusal_of_taking(things, spot):
+    """Gives back None if a tag is there."""
+    if spot >= len(things):
+        return OUT_OF_RANGE
+    if things[spot][0] == WORD:
+        return IS_A_WORD
+    return None
+
+
+def take_answer(desk, spot):
+    refusal = refusal_of_taking(desk.things, spot)
+    if refusal is not None:
+        return [refusal]
+    return change(desk, without(desk.things, spot))
+
+
+def move_answer(desk, spot, other):
+    refusal = refusal_of_taking(desk.things, spot)
+    if refusal is not None:
+        return [refusal]
+    others = without(desk.things, spot)
+    if other > len(others):
+        return [OUT_OF_RANGE]
+    # As many things and tags as before, so there can't be too much.
+    return change(desk, others[:other] + [desk.things[spot]] + others[other:])
+
+
+def rewrite_answer(desk, spot, many, words):
+    end = spot + many
+    new_words = [(WORD, word) for word in words]
+    if end > len(desk.things) or has_great_number(new_words):
+        return [OUT_OF_RANGE]
+    staying = [thing for thing in desk.things[spot:end] if thing[0] != WORD]
+    things = desk.things[:spot] + staying + new_words + desk.things[end:]
+    if is_too_much(things):
+        return [TOO_MUCH]
+    return change(desk, things)
+
+
+def words_within(things, number):
+    first = things.index((OPENING, number))
+    last = things.index((CLOSING, number))
+    return [thing[1] for thing in things[first:last] if thing[0] == WORD]
+
+
+def within_answer(desk, number):
+    if not is_of_source(desk.tags, (OPENING, number)):
+        return [NO_SUCH_PAIR]
+    if not is_whole(desk.things, number) or not is_in_order(desk.things, number):
+        return [NOT_WHOLE]
+    in_source = words_within(desk.source_things, number)
+    in_translation = words_within(desk.things, number)
+    return [len(in_source)] + in_source + [len(in_translation)] + in_translation
+
+
+def undo_answer(desk):
+    if len(desk.earlier) == 0:
+        return [NOTHING_TO_UNDO]
+    desk.things = desk.earlier.pop()
     return standing(desk)
 
 
@@ -292,8 +366,20 @@ def call_answer(desk, call):
         return mend_answer(desk)
     if call[0] == WOULD_CALL:
         return would_answer(desk)
-    # Only put is left: call_length knows no call behind it.
-    return put_answer(desk, call[1], call[2], call[3])
+    if call[0] == PUT_CALL:
+        return put_answer(desk, call[1], call[2], call[3])
+    if call[0] == TAKE_CALL:
+        return take_answer(desk, call[1])
+    if call[0] == REWRITE_CALL:
+        return rewrite_answer(desk, call[1], call[2], call[4:])
+    if call[0] == WITHIN_CALL:
+        return within_answer(desk, call[1])
+    if call[0] == SHOWS_CALL:
+        return segment_answer(desk.things)
+    if call[0] == UNDO_CALL:
+        return undo_answer(desk)
+    # Only move is left: call_length knows no call behind it.
+    return move_answer(desk, call[1], call[2])
 
 
 def answers(calls):

@@ -37,10 +37,30 @@ def target(text):
 FAULTS = [2]
 MEND = [3]
 WOULD = [4]
+SHOWS = [9]
+UNDO = [10]
 
 
 def put(spot, text):
     return [5, spot] + segment(text)
+
+
+def take(spot):
+    return [6, spot]
+
+
+def retype(spot, many, text=""):
+    """The call that the document names type; the text is of words alone."""
+    new_words = [int(word) for word in text.split()]
+    return [7, spot, many, len(new_words)] + new_words
+
+
+def within(number):
+    return [8, number]
+
+
+def move(spot, other):
+    return [11, spot, other]
 
 
 def flat(calls):
@@ -63,8 +83,12 @@ def last(*calls):
     return ask(*calls)[-1]
 
 
+def shown(text):
+    return [len(text.split())] + segment(text)
+
+
 def mended(cost, text):
-    return [cost, len(text.split())] + segment(text)
+    return [cost] + shown(text)
 
 
 def told(*faults):

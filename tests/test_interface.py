@@ -2,7 +2,9 @@ import contextlib
 import io
 import unittest
 
-from lines import FAULTS, MEND, WOULD, ask, flat, put, segment, source, target, words
+from lines import (
+    FAULTS, MEND, SHOWS, UNDO, WOULD, ask, flat, move, put, retype, segment, source, take, target, within, words,
+)
 from tagmenddesk.segment import answers
 
 LINE = [
@@ -16,6 +18,26 @@ LINE = [
     target("1000"),
     source("=1", ""),
     FAULTS,
+    retype(1, 4, "10 11"),
+    within(1),
+    within(2),
+    move(0, 3),
+    move(7, 8),
+    SHOWS,
+    take(6),
+    take(3),
+    UNDO,
+    SHOWS,
+    UNDO,
+    SHOWS,
+    within(3),
+    UNDO,
+    UNDO,
+    UNDO,
+    UNDO,
+    UNDO,
+    within(2),
+    SHOWS,
 ]
 
 ANSWERS = [
@@ -28,6 +50,26 @@ ANSWERS = [
     [3, 8] + segment("<2 7 <1 1> 8 2> 9 =3"),
     [-1],
     [-3],
+    [0],
+    [8, 0],
+    [1, 5, 0],
+    [0, 2, 10, 11],
+    [8, 0],
+    [-1],
+    [8] + segment("<1 1> 10 <2 11 2> 9 =3"),
+    [-6],
+    [7, 1],
+    [8, 0],
+    [8] + segment("<1 1> 10 <2 11 2> 9 =3"),
+    [8, 0],
+    [8] + segment("<2 <1 1> 10 11 2> 9 =3"),
+    [-2],
+    [8, 0],
+    [9, 2],
+    [8, 3],
+    [0, 2],
+    [-7],
+    [-6],
     [0],
 ]
 
@@ -49,9 +91,17 @@ class Interface(unittest.TestCase):
         expected += [6, 0, 2, 0, 7, 3, 1] + [6, 0, 2, 0, 7, 3, 1] + [1, 0]
         self.assertEqual(answers(calls), expected)
 
+    def test_the_later_calls_number_by_number(self):
+        calls = [0, 10, 1, 4, 1, 1, 1, 4, 0, 3, 2, 4] + [7, 0, 0, 2, 8, 9] + [5, 1, 2, 4] + [5, 0, 1, 4]
+        expected = [2, 0, 1] + [2, 2, 1] + [2, 3, 1] + [2, 4, 0]
+        calls += [8, 4] + [9] + [11, 0, 1] + [9] + [6, 2] + [10] + [7, 0, 4, 0] + [9] + [7, 1, 2, 0] + [10]
+        expected += [4, 1, 3, 1, 8] + [9, 4, 1, 4, 0, 8, 2, 4, 0, 9] + [2, 4, 0] + [9, 4, 0, 8, 1, 4, 2, 4, 0, 9]
+        expected += [2, 3, 1] + [2, 4, 0] + [2, 2, 0] + [5, 2, 1, 4, 2, 4] + [1, -1] + [2, 4, 0]
+        self.assertEqual(answers(calls), expected)
+
     def test_the_line_that_the_readme_shows(self):
-        calls = [0, 8, 1, 4, 1, 1, 1, 4, 2, 4, 1, 4, 0, 7, 1, 4, 2, 3]
-        expected = [2, 0, 1, 2, 2, 1, 4, 1, 4, 4, 0, 8, 1, 3, 0, 7, 1, 4, 2, 4]
+        calls = [0, 8, 1, 4, 1, 1, 1, 4, 2, 4, 1, 4, 0, 7, 1, 4, 2, 3, 10]
+        expected = [2, 0, 1, 2, 2, 1, 4, 1, 4, 4, 0, 8, 1, 3, 0, 7, 1, 4, 2, 4, 2, 2, 1]
         self.assertEqual(answers(calls), expected)
 
     def test_a_line_call_by_call(self):
@@ -70,7 +120,7 @@ class Interface(unittest.TestCase):
 
     def test_what_is_handed_in_is_not_changed(self):
         calls = KeptAsItIs(flat(LINE))
-        answers(calls)
+        self.assertEqual(answers(calls), flat([[len(answer)] + answer for answer in ANSWERS]))
         self.assertEqual(list(calls), flat(LINE))
 
     def test_what_is_given_back_is_a_list_of_its_own(self):
@@ -79,8 +129,8 @@ class Interface(unittest.TestCase):
         self.assertEqual(answers(flat(LINE)), flat([[len(answer)] + answer for answer in ANSWERS]))
 
     def test_nothing_is_kept_from_one_time_to_the_next(self):
-        ask(source("=1!", "=1"), target("5 6"))
-        self.assertEqual(ask(FAULTS, WOULD), [[0], [0, 0]])
+        ask(source("<1!", "<1 1>"), target("5 6"), target("<1 5 1>"))
+        self.assertEqual(ask(FAULTS, WOULD, SHOWS, UNDO, within(1)), [[0], [0, 0], [0], [-7], [-2]])
         self.assertEqual(ask(*LINE), ask(*LINE))
 
     def test_prints_and_reads_nothing(self):
@@ -101,6 +151,14 @@ class Interface(unittest.TestCase):
         told = [43] + [7, 1, 0] * 43
         self.assertEqual(answers([0, 130] + told), [1, -1])
         self.assertEqual(answers([1, 100] + [0, 1] * 50 + [2]), [1, -1, 1, 0])
+        self.assertEqual(answers([7, 0, 0, 100] + [9] * 100 + [9]), [1, -5, 1, 0])
+        self.assertEqual(answers(([0, 130] + told) * 40), [1, -1] * 40)
+
+    def test_the_greatest_numbers(self):
+        greatest = 4294967295
+        calls = [5, greatest, 3, greatest] + [6, greatest] + [7, greatest, greatest, 1, greatest] + [8, greatest]
+        calls += [11, greatest, greatest] + [1, 2, 0, greatest] + [0, 4, 1, greatest, 1, 1] + [9]
+        self.assertEqual(answers(calls), [1, -1] * 3 + [1, -2] + [1, -1] * 3 + [1, 0])
 
 
 if __name__ == "__main__":
